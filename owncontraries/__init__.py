@@ -1,0 +1,1 @@
+"""Rooms of words that are their own contrary."""

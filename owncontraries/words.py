@@ -1,0 +1,63 @@
+"""Words: INTEGERS whose powers of 2 tell which places are on."""
+
+from owncontraries.basics import is_count, is_integer, is_list
+from owncontraries.errors import InvalidPlaces, InvalidSpots, InvalidWord
+
+MOST_PLACES = 24
+
+
+def check_places(places):
+    """Raise InvalidPlaces unless this is a number of places."""
+    if not is_integer(places) or not 1 <= places <= MOST_PLACES:
+        raise InvalidPlaces(places)
+
+
+def is_word(places, value):
+    """Whether the value is a word of so many places."""
+    check_places(places)
+    return is_count(value) and value < (1 << places)
+
+
+def check_word(word, places=MOST_PLACES):
+    """Raise InvalidWord unless this is a word of so many places."""
+    if not is_word(places, word):
+        raise InvalidWord(word)
+
+
+def weight(word):
+    """How many places are on in the word."""
+    check_word(word)
+    left = word
+    count = 0
+    while left > 0:
+        # a number and the one below it share all powers of 2 but the least ones, so this takes off one place
+        left = left & (left - 1)
+        count += 1
+    return count
+
+
+def are_even(word, other):
+    """Whether the two words meet in an even number of places."""
+    check_word(word)
+    check_word(other)
+    return weight(word & other) % 2 == 0
+
+
+def places_of(word):
+    """The rising list of the places that are on in the word."""
+    check_word(word)
+    return [place for place in range(MOST_PLACES) if (word >> place) & 1]
+
+
+def are_spots(places, value):
+    """Whether the value is a list of unlike places, each below this number of places."""
+    if not is_list(value) or not all([is_count(spot) and spot < places for spot in value]):
+        return False
+    return len(set(value)) == len(value)
+
+
+def word_of(spots):
+    """The word in which just these places are on."""
+    if not are_spots(MOST_PLACES, spots):
+        raise InvalidSpots(spots)
+    return sum([1 << spot for spot in spots])

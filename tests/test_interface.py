@@ -1,0 +1,79 @@
+"""The interface: each name stands in its file, takes its parameters, and is of its kind."""
+
+import importlib
+import inspect
+import unittest
+
+FUNCTIONS = {
+    "basics": {
+        "is_integer": ["value"],
+        "is_count": ["value"],
+        "is_list": ["value"],
+    },
+    "words": {
+        "is_word": ["places", "value"],
+        "weight": ["word"],
+        "are_even": ["word", "other"],
+        "places_of": ["word"],
+        "word_of": ["spots"],
+    },
+}
+
+# the constructor's parameters, the properties, and the methods with their parameters
+CLASSES = {
+    "rooms": {
+        "Room": (["places", "words"], ["places", "dimension"], {"basis": [], "has": ["word"], "words": []}),
+    },
+}
+
+
+def listed(table):
+    return [
+        (importlib.import_module("owncontraries." + file), name, told)
+        for file, names in table.items()
+        for name, told in names.items()
+    ]
+
+
+def parameters(function):
+    return list(inspect.signature(function).parameters.values())
+
+
+class TestInterface(unittest.TestCase):
+    def check_parameters(self, found, wanted):
+        self.assertEqual([parameter.name for parameter in found], wanted)
+        for parameter in found:
+            self.assertEqual(parameter.kind, inspect.Parameter.POSITIONAL_OR_KEYWORD)
+            self.assertIs(parameter.default, inspect.Parameter.empty)
+
+    def test_functions(self):
+        for module, name, wanted in listed(FUNCTIONS):
+            with self.subTest(name):
+                function = getattr(module, name)
+                self.assertTrue(inspect.isfunction(function))
+                self.assertEqual(function.__module__, module.__name__)
+                self.check_parameters(parameters(function), wanted)
+
+    def test_classes(self):
+        for module, name, (wanted, properties, methods) in listed(CLASSES):
+            with self.subTest(name):
+                listed_class = getattr(module, name)
+                self.assertTrue(inspect.isclass(listed_class))
+                self.assertEqual(listed_class.__module__, module.__name__)
+                self.check_parameters(parameters(listed_class), wanted)
+                own = vars(listed_class)
+                for part in properties:
+                    self.assertIsInstance(own[part], property)
+                for method, taken in methods.items():
+                    self.assertTrue(inspect.isfunction(own[method]))
+                    self.check_parameters(parameters(own[method])[1:], taken)
+
+    def test_equality_and_repr_stand_in_the_class_itself(self):
+        from owncontraries.rooms import Room
+
+        for method in ["__init__", "__eq__", "__repr__"]:
+            self.assertIn(method, vars(Room))
+
+
+if __name__ == "__main__":
+    unittest.main()

@@ -1,0 +1,57 @@
+"""Values that several tests pass."""
+
+
+class Plain:
+    """An object of no kind that the package knows."""
+
+
+def nothing():
+    """A function as a value."""
+
+
+# of no kind of number, list or tuple; True and False are no INTEGERS
+NO_NUMBERS = [
+    None,
+    True,
+    False,
+    "",
+    "3",
+    "word",
+    b"",
+    b"3",
+    {},
+    {3: 3},
+    {"places": 4},
+    set(),
+    {3},
+    frozenset([3]),
+    range(3),
+    Plain(),
+    Plain,
+    nothing,
+    ValueError(3),
+]
+
+LISTS = [
+    [],
+    (),
+    [3],
+    (3,),
+    [0, 1],
+    (1, 0),
+    [[]],
+    ((),),
+    [True],
+    ["3"],
+    [None, None],
+]
+
+NO_INTEGERS = NO_NUMBERS + LISTS
+
+BELOW_ZERO = [-1, -2, -16, -999999, -(10 ** 29)]
+AT_LEAST_ZERO = [0, 1, 2, 3, 24, 25, 999999, 2 ** 24 - 1, 2 ** 24, 10 ** 29, 10 ** 30 - 1]
+
+NO_COUNTS = NO_INTEGERS + BELOW_ZERO
+NO_PLACES = NO_COUNTS + [0, 25, 26, 999999, 10 ** 29]
+# none of 24 places, so none of fewer
+NO_WORDS = NO_COUNTS + [2 ** 24, 2 ** 24 + 1, 10 ** 29]
