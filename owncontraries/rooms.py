@@ -1,7 +1,7 @@
 """Rooms: lots of words with 0 and all their sums, kept as their plain basis."""
 
 from owncontraries.basics import is_list
-from owncontraries.errors import InvalidWords, TooMany
+from owncontraries.errors import InvalidRoom, InvalidWords, TooMany, UnlikePlaces
 from owncontraries.words import check_places, check_word, is_word
 
 MOST_WORDS = 48
@@ -97,3 +97,32 @@ class Room:
 
     def __repr__(self):
         return f"Room({self._places}, {self._basis})"
+
+
+def check_room(room):
+    """Raise InvalidRoom unless this is a Room."""
+    if not isinstance(room, Room):
+        raise InvalidRoom(room)
+
+
+def check_two(room, other):
+    """Raise an error unless these are two Rooms of as many places."""
+    check_room(room)
+    check_room(other)
+    if room.places != other.places:
+        raise UnlikePlaces()
+
+
+def is_word_of(room, value):
+    """Whether the value is a word of the room."""
+    return is_word(room.places, value) and room.has(value)
+
+
+def room_with(room, word):
+    """The room that the words of a room and one word more make."""
+    return Room(room.places, room.basis() + [word])
+
+
+def by_bases(rooms):
+    """The rooms sorted by their plain bases, a new list."""
+    return sorted(rooms, key=lambda room: room.basis())

@@ -49,6 +49,11 @@ def places_of(word):
     return [place for place in range(MOST_PLACES) if (word >> place) & 1]
 
 
+def all_on(places):
+    """The word of all places, in which each of so many places is on."""
+    return (1 << places) - 1
+
+
 def are_spots(places, value):
     """Whether the value is a list of unlike places, each below this number of places."""
     if not is_list(value) or not all([is_count(spot) and spot < places for spot in value]):

@@ -17,6 +17,38 @@ FUNCTIONS = {
         "places_of": ["word"],
         "word_of": ["spots"],
     },
+    "mixes": {
+        "sum_room": ["room", "other"],
+        "common_room": ["room", "other"],
+        "lies_in": ["room", "other"],
+        "beside": ["room", "other"],
+        "shortened": ["room", "word"],
+        "cut": ["room", "word"],
+        "exchanged": ["room", "sequence"],
+    },
+    "contraries": {
+        "contrary": ["room"],
+        "is_still": ["room"],
+        "is_own": ["room"],
+        "why_not_own": ["room"],
+        "is_why_not_own": ["room", "value"],
+    },
+    "fills": {
+        "filled": ["room"],
+        "fill_count": ["room"],
+        "fills": ["room"],
+    },
+    "weights": {
+        "row": ["room"],
+        "least": ["room"],
+        "least_words": ["room"],
+    },
+    "tables": {
+        "is_row": ["value"],
+        "entry": ["places", "first", "second"],
+        "changed": ["row"],
+        "is_own_row": ["row"],
+    },
 }
 
 # the constructor's parameters, the properties, and the methods with their parameters

@@ -6,15 +6,8 @@ import unittest
 
 from owncontraries.errors import InvalidPlaces, InvalidWord, InvalidWords, TooMany
 from owncontraries.rooms import Room
+from tests.drawn import all_sums, units
 from tests.values import LISTS, NO_NUMBERS, NO_PLACES, NO_WORDS, Plain
-
-
-def all_sums(words):
-    """All sums of these words, made one after another."""
-    sums = {0}
-    for word in words:
-        sums = sums | {word ^ other for other in sums}
-    return sorted(sums)
 
 
 def some_lists():
@@ -27,10 +20,6 @@ def some_lists():
     for places in range(4, 25):
         for many in [0, 1, 2, 3, 5, 8]:
             yield places, [chance.randrange(2 ** places) for _ in range(many)]
-
-
-def units(places):
-    return [2 ** place for place in range(places)]
 
 
 class TestExamples(unittest.TestCase):

@@ -55,3 +55,42 @@ NO_COUNTS = NO_INTEGERS + BELOW_ZERO
 NO_PLACES = NO_COUNTS + [0, 25, 26, 999999, 10 ** 29]
 # none of 24 places, so none of fewer
 NO_WORDS = NO_COUNTS + [2 ** 24, 2 ** 24 + 1, 10 ** 29]
+
+# rooms are made by Room alone: what tells one, or is part of one, is none
+NO_ROOMS = NO_INTEGERS + BELOW_ZERO + AT_LEAST_ZERO + [(4, [3, 12]), [12, 3], "Room(4, [12, 3])"]
+
+# no sequences of four places
+NO_SEQUENCES = NO_NUMBERS + BELOW_ZERO + AT_LEAST_ZERO + [
+    [],
+    (),
+    [0],
+    [0, 1, 2],
+    (0, 1, 2),
+    [0, 1, 2, 3, 4],
+    (4, 3, 2, 1, 0),
+    [0, 1, 2, 3, 0],
+    [0, 1, 2, 2],
+    [1, 1, 1, 1],
+    [1, 2, 3, 4],
+    [0, 1, 2, -1],
+    [-4, -3, -2, -1],
+    [0, 1, 2, 10 ** 29],
+    [0, True, 2, 3],
+    [False, 1, 2, 3],
+    [0, 1, 2, "3"],
+    ["0", "1", "2", "3"],
+    [0, 1, 2, None],
+    [None] * 4,
+    [[0], [1], [2], [3]],
+    [0, 1, 2, [3]],
+    [0, 1, 2, {3: 3}],
+    [0, 1, 2, Plain()],
+    [[0, 1, 2, 3]],
+    "0123",
+    b"\x00\x01\x02\x03",
+    range(4),
+    {0: 0, 1: 1, 2: 2, 3: 3},
+    {0, 1, 2, 3},
+    list(range(24)),
+    list(range(200)),
+]
