@@ -8,8 +8,8 @@ from owncontraries.errors import InvalidRoom
 from owncontraries.mixes import common_room, lies_in, sum_room
 from owncontraries.rooms import Room
 from tests.checks import Checks
-from tests.drawn import EIGHT_WORDS, GOLAY_WORDS, all_rooms, all_sums, even_words, few_rooms, large_rooms, odd, own_rooms
-from tests.drawn import own_word_sets, pair_words, room_pairs, still_rooms, units
+from tests.drawn import EIGHT_WORDS, GOLAY_WORDS, all_rooms, all_sums, even_words, few_rooms, large_rooms, odd
+from tests.drawn import own_rooms, own_word_sets, pair_words, room_pairs, still_rooms, units
 from tests.values import AT_LEAST_ZERO, BELOW_ZERO, NO_INTEGERS, NO_ROOMS, NO_WORDS, Plain
 
 STILL_NOT_OWN = [Room(4, [3]), Room(4, []), Room(1, []), Room(3, [3]), Room(8, [15]), Room(24, GOLAY_WORDS[1:])]
@@ -187,7 +187,8 @@ class TestWhyNotOwn(Checks):
             self.check_paper(room)
 
     def test_half_of_the_places_but_not_still(self):
-        for room in [Room(4, [3, 5]), Room(2, [1]), Room(2, [2]), Room(6, [3, 6, 63]), Room(4, [1, 2]), Room(8, units(4))]:
+        few = [Room(2, [1]), Room(2, [2]), Room(4, [3, 5]), Room(4, [1, 2])]
+        for room in few + [Room(6, [3, 6, 63]), Room(8, units(4))]:
             self.check_paper(room)
 
     def test_wrong_rooms(self):
@@ -281,7 +282,8 @@ class TestIsWhyNotOwn(Checks):
         three, pair = Room(3, [7]), Room(4, [3])
         texts = ["odd", "lacks", "('odd', 7, 7)", "odd 7 7"]
         others = NO_INTEGERS + BELOW_ZERO + AT_LEAST_ZERO + texts + [three, {"odd": (7, 7)}, {0: "odd", 1: 7, 2: 7}]
-        for value in others + [["odd", 7, 7], ["lacks", 4], [("odd", 7, 7)], (("odd", 7, 7),), {"odd", 7}, {"lacks", 4}]:
+        lists = [["odd", 7, 7], ["lacks", 4], [("odd", 7, 7)], (("odd", 7, 7),)]
+        for value in others + lists + [{"odd", 7}, {"lacks", 4}]:
             self.check_lets(three, value, False)
             self.check_lets(pair, value, False)
 
