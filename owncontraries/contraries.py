@@ -1,6 +1,6 @@
 """The contrary of a room, still and own rooms, and papers that a room is not its own contrary."""
 
-from owncontraries.errors import NotStill
+from owncontraries.errors import NotOwn, NotStill
 from owncontraries.rooms import Room, check_room, highest, is_word_of
 from owncontraries.words import are_even, is_word
 
@@ -46,6 +46,12 @@ def check_still(room):
 def is_own(room):
     """Whether the room is its contrary."""
     return is_still(room) and 2 * room.dimension == room.places
+
+
+def check_own(room):
+    """Raise an error unless this is an own Room."""
+    if not is_own(room):
+        raise NotOwn()
 
 
 def lacking_word(room):

@@ -30,22 +30,31 @@ def filled(room):
     return full
 
 
+def product_of(first, many):
+    """The product of so many numbers: a first one, twice it, four times it, and so on, 1 put to each."""
+    result = 1
+    for step in range(many):
+        result = result * ((first << step) + 1)
+    return result
+
+
 def fill_count(room):
     """How many fill-ups the still room has."""
     check_still(room)
     if room.places % 2 == 1:
         return 0
-    count = 1
-    for step in range(lacking_dimensions(with_all(room))):
-        count = count * ((2 << step) + 1)
-    return count
+    return product_of(2, lacking_dimensions(with_all(room)))
 
 
-def rests_over(room):
-    """What words of the contrary leave by the plain basis of a still room: all such rests but 0, sorted."""
+def rests_basis(room, larger):
+    """The plain basis of what words of a larger room leave by the plain basis of a room."""
     basis = room.basis()
-    rests = [rest_of(word, basis) for word in contrary(room).basis()]
-    return [rest for rest in sums_of(plain_basis(rests)) if rest > 0]
+    return plain_basis([rest_of(word, basis) for word in larger.basis()])
+
+
+def rests_over(room, larger):
+    """What words of a larger room leave by the plain basis of a room: all such rests but 0, sorted."""
+    return [rest for rest in sums_of(rests_basis(room, larger)) if rest > 0]
 
 
 def goes_on(basis, word):
@@ -61,6 +70,13 @@ def even_bases(words, dimension):
     return bases
 
 
+def rooms_over(start, rests):
+    """The own rooms that a still room with the word of all places makes with some of these rests by it, sorted."""
+    # an own room is told by its rests, and these by their plain basis: so each comes just once
+    bases = even_bases(rests, lacking_dimensions(start))
+    return by_bases([Room(start.places, start.basis() + basis) for basis in bases])
+
+
 def fills(room):
     """The list of all fill-ups of the still room, sorted by their plain bases."""
     count = fill_count(room)
@@ -69,6 +85,4 @@ def fills(room):
     if count > MOST_ROOMS:
         raise TooMany("rooms", MOST_ROOMS)
     start = with_all(room)
-    # a fill-up is told by its rests over the start, and these by their plain basis: so each comes just once
-    bases = even_bases(rests_over(start), lacking_dimensions(start))
-    return by_bases([Room(room.places, start.basis() + basis) for basis in bases])
+    return rooms_over(start, rests_over(start, contrary(start)))

@@ -114,12 +114,20 @@ def own_word_sets(places):
     return sorted(level, key=sorted)
 
 
-def still_rooms(seed, counts):
-    """Drawn still rooms of these numbers of places, up to ten, of each dimension that they can have."""
+def own_rooms_of(places):
+    """All own rooms of so many places."""
+    return [Room(places, sorted(words)) for words in own_word_sets(places)]
+
+
+def still_rooms(seed, counts, divisor=2):
+    """Drawn still rooms of these numbers of places, up to ten, of each dimension that they can have.
+
+    The divisor, 2 or 4, divides the weight of each of their words.
+    """
     chance = random.Random(seed)
     for places in counts:
         words = []
-        fitting = [word for word in range(2 ** places) if not odd(word, word)]
+        fitting = [word for word in range(2 ** places) if ons(word) % divisor == 0]
         while True:
             yield Room(places, words)
             sums = all_sums(words)
@@ -127,6 +135,41 @@ def still_rooms(seed, counts):
             if not fitting:
                 break
             words = words + [chance.choice(fitting)]
+
+
+def stepped(words, word):
+    """Words that make the neighbour by a word of even weight of the own room that the words make, or this room."""
+    odd_ones = [one for one in words if odd(one, word)]
+    if not odd_ones:
+        return words
+    return [one for one in words if not odd(one, word)] + [one ^ odd_ones[0] for one in odd_ones[1:]] + [word]
+
+
+def drawn_own_rooms(seed, counts):
+    """Drawn own rooms of these numbers of places."""
+    chance = random.Random(seed)
+    for places in counts:
+        words = pair_words(places)
+        for _ in range(places):
+            words = stepped(words, even_one(chance.randrange(2 ** places)))
+        yield Room(places, words)
+
+
+def even_one(word):
+    """The word, or the one with place 0 the other way, of even weight."""
+    return word ^ odd(word, word)
+
+
+def drawn_fours_rooms(seed, counts):
+    """Drawn own rooms by fours of these numbers of places, which 8 divides."""
+    chance = random.Random(seed)
+    for places in counts:
+        words = [word << place for place in range(0, places, 8) for word in EIGHT_WORDS]
+        # each step leads to the other family
+        for _ in range(places + chance.randrange(2)):
+            word = sum(2 ** place for place in chance.sample(range(places), chance.randrange(4, places, 4)))
+            words = stepped(words, word)
+        yield Room(places, words)
 
 
 def lot_words(places):
@@ -144,3 +187,21 @@ def own_rooms():
     yield Room(16, EIGHT_WORDS + [word << 8 for word in EIGHT_WORDS])
     yield Room(14, [3] + [word << 2 for word in lot_words(12)])
     yield Room(24, GOLAY_WORDS)
+
+
+def row_by_words(room):
+    """The row of a room, its words gone through one by one."""
+    weights = [ons(word) for word in all_sums(room.basis())]
+    return [weights.count(weight) for weight in range(room.places + 1)]
+
+
+def drawn_rows():
+    """Rows of 1 to 24 places of drawn numbers."""
+    chance = random.Random(33)
+    for places in range(1, 25):
+        for dimension in range(places + 1):
+            numbers = [1] + [0] * places
+            for _ in range(min(2 ** dimension - 1, 40)):
+                numbers[chance.randrange(1, places + 1)] += 1
+            numbers[chance.randrange(1, places + 1)] += 2 ** dimension - sum(numbers)
+            yield numbers

@@ -49,6 +49,29 @@ FUNCTIONS = {
         "changed": ["row"],
         "is_own_row": ["row"],
     },
+    "moments": {
+        "moment": ["row", "power"],
+        "walks": ["places", "weight", "power"],
+    },
+    "neighbours": {
+        "neighbour": ["room", "word"],
+        "are_neighbours": ["room", "other"],
+        "neighbours": ["room"],
+    },
+    "chains": {
+        "distance": ["room", "other"],
+        "chain": ["room", "other"],
+        "is_chain": ["room", "other", "value"],
+        "same_family": ["room", "other"],
+    },
+    "fours": {
+        "is_by_fours": ["room"],
+        "why_not_fours": ["room"],
+        "fours_half": ["room"],
+        "fours_filled": ["room"],
+        "fours_count": ["room"],
+        "fours_fills": ["room"],
+    },
 }
 
 # the constructor's parameters, the properties, and the methods with their parameters

@@ -44,6 +44,8 @@ BARRED_NAMES = set(
     copyright credits delattr dir eval exec exit gc globals help id importlib license locals methodcaller os quit
     setattr vars sys""".split()
 )
+# doctest leaves a name "_" among the builtins
+PYTHONS_OWN = [name for name in vars(builtins) if not name.startswith("_")]
 STATEMENTS = (
     ast.FunctionDef, ast.ClassDef, ast.Assign, ast.AugAssign, ast.If, ast.While, ast.For, ast.Return, ast.Break,
     ast.Continue, ast.Pass, ast.Raise, ast.Assert, ast.Delete, ast.Nonlocal, ast.Match, ast.With, ast.Try, ast.Expr,
@@ -141,6 +143,16 @@ class TestImports(unittest.TestCase):
             self.assertTrue(free, left)
             left = {name: others for name, others in left.items() if name not in free}
 
+    def test_no_other_name_hides_an_import_or_a_class(self):
+        for name, tree in trees():
+            taken = {part.name for node in self.imports()[name] for part in node.names}
+            taken |= {node.name for node in tree.body if isinstance(node, ast.ClassDef)}
+            nodes = list(ast.walk(tree))
+            given = [node.arg for node in nodes if isinstance(node, ast.arg)]
+            given += [node.id for node in nodes if isinstance(node, ast.Name) and isinstance(node.ctx, ast.Store)]
+            given += [node.name for node in nodes if isinstance(node, ast.FunctionDef)]
+            self.assertEqual([called for called in given if called in taken], [], name)
+
     def test_imports_stand_at_the_top(self):
         for name, tree in trees():
             kinds = [isinstance(node, ast.ImportFrom) for node in tree.body if not isinstance(node, ast.Expr)]
@@ -174,14 +186,14 @@ class TestCode(unittest.TestCase):
 
     def test_builtins(self):
         for name, node in walked(ast.Name):
-            if node.id in vars(builtins):
+            if node.id in PYTHONS_OWN:
                 with self.subTest(name, called=node.id, line=node.lineno):
                     self.assertIn(node.id, BUILTINS)
                     self.assertIsInstance(node.ctx, ast.Load)
         for name, tree in trees():
             given = [node.arg for node in ast.walk(tree) if isinstance(node, ast.arg)]
             given += [node.name for node in tree.body if isinstance(node, (ast.FunctionDef, ast.ClassDef))]
-            self.assertEqual([called for called in given if called in vars(builtins)], [], name)
+            self.assertEqual([called for called in given if called in PYTHONS_OWN], [], name)
 
     def test_called_methods(self):
         own = {node.name for _, node in walked((ast.FunctionDef, ast.ClassDef))}

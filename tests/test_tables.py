@@ -2,7 +2,6 @@
 
 import itertools
 import math
-import random
 import unittest
 from fractions import Fraction
 
@@ -11,61 +10,8 @@ from owncontraries.errors import InvalidAt, InvalidPlaces, InvalidRow, NotWhole
 from owncontraries.rooms import Room
 from owncontraries.tables import changed, entry, is_own_row, is_row
 from tests.checks import Checks
-from tests.drawn import all_sums, drawn_rooms, few_rooms, odd, ons, own_rooms
-from tests.values import LISTS, NO_COUNTS, NO_NUMBERS, NO_PLACES, Plain
-
-NO_ROWS = NO_NUMBERS + [value for value in LISTS if value != (1, 0)] + [
-    0,
-    1,
-    -1,
-    10 ** 29,
-    [1],
-    (1,),
-    [1, 2],
-    [1, 0, 2],
-    [1, 3],
-    [2, 0],
-    [0, 1],
-    [0, 0, 1],
-    [0, 2, 0],
-    [-1, 2],
-    [3, 1],
-    [1, -1],
-    [1, 2, -1],
-    [1, 0, -1, 2],
-    [1, -1, 2, 0, 2],
-    [1, 0, 1, 4, 3],
-    [1, 2, 2],
-    [1, 7],
-    [1, 4, 3],
-    [1, 8, 5, 2],
-    [1, 10 ** 29],
-    [1, 2 ** 90 - 1],
-    [True, 1],
-    [1, True],
-    [1, False],
-    [1, 0, True, 0],
-    [1, "1"],
-    ["1", 0],
-    [1, None],
-    [1, [1]],
-    [1, b"1"],
-    [[1, 1]],
-    [1, Plain()],
-    [1, {1: 1}],
-    "11",
-    b"\x01\x01",
-    range(1, 2),
-    {0: 1, 1: 1},
-    {1, 0},
-    Room(1, [1]),
-    [1] + [0] * 25,
-    [1] * 26,
-    [1] * 32,
-    [1] + [0] * 24 + [1],
-    [1] * 200,
-    [1] + [0] * 23 + [2 ** 25 - 1],
-]
+from tests.drawn import drawn_rooms, drawn_rows, few_rooms, odd, ons, own_rooms, row_by_words
+from tests.values import NO_COUNTS, NO_PLACES, NO_ROWS
 
 ROWS = [
     [1, 0],
@@ -118,29 +64,12 @@ def first_that_is_no_count(numbers):
     return None
 
 
-def row_by_words(room):
-    weights = [ons(word) for word in all_sums(room.basis())]
-    return [weights.count(weight) for weight in range(room.places + 1)]
-
-
 def all_rows(places):
     """All rows of so many places, each number of which is at most 2 to the places."""
     for total in [2 ** dimension for dimension in range(places + 1)]:
         for numbers in itertools.product(range(total), repeat=places):
             if sum(numbers) == total - 1:
                 yield [1] + list(numbers)
-
-
-def drawn_rows():
-    """Rows of 1 to 24 places of drawn numbers."""
-    chance = random.Random(33)
-    for places in range(1, 25):
-        for dimension in range(places + 1):
-            numbers = [1] + [0] * places
-            for _ in range(min(2 ** dimension - 1, 40)):
-                numbers[chance.randrange(1, places + 1)] += 1
-            numbers[chance.randrange(1, places + 1)] += 2 ** dimension - sum(numbers)
-            yield numbers
 
 
 def some_rows():

@@ -12,7 +12,7 @@ from owncontraries.tables import changed, is_row
 from owncontraries.weights import least, least_words, row
 from tests.checks import Checks
 from tests.drawn import EIGHT_WORDS, GOLAY_WORDS, all_sums, drawn_rooms, even_words, few_rooms, large_rooms, odd, ons
-from tests.drawn import own_rooms, pair_words, units
+from tests.drawn import own_rooms, pair_words, row_by_words, units
 from tests.values import NO_ROOMS
 
 ALL_THREE = [row, least, least_words]
@@ -26,12 +26,6 @@ def room_of_columns(columns):
     """The room of the words with an even number of places on, whose columns sum up to 0."""
     checks = [sum(((column >> bit) & 1) << place for place, column in enumerate(columns)) for bit in range(6)]
     return contrary(Room(len(columns), checks + [2 ** len(columns) - 1]))
-
-
-def row_by_words(room):
-    """The row, words gone through one by one."""
-    weights = [ons(word) for word in all_sums(room.basis())]
-    return [weights.count(weight) for weight in range(room.places + 1)]
 
 
 def rooms_gone_through():

@@ -1,5 +1,7 @@
 """Values that several tests pass."""
 
+from owncontraries.rooms import Room
+
 
 class Plain:
     """An object of no kind that the package knows."""
@@ -93,4 +95,57 @@ NO_SEQUENCES = NO_NUMBERS + BELOW_ZERO + AT_LEAST_ZERO + [
     {0, 1, 2, 3},
     list(range(24)),
     list(range(200)),
+]
+
+NO_ROWS = NO_NUMBERS + [value for value in LISTS if value != (1, 0)] + [
+    0,
+    1,
+    -1,
+    10 ** 29,
+    [1],
+    (1,),
+    [1, 2],
+    [1, 0, 2],
+    [1, 3],
+    [2, 0],
+    [0, 1],
+    [0, 0, 1],
+    [0, 2, 0],
+    [-1, 2],
+    [3, 1],
+    [1, -1],
+    [1, 2, -1],
+    [1, 0, -1, 2],
+    [1, -1, 2, 0, 2],
+    [1, 0, 1, 4, 3],
+    [1, 2, 2],
+    [1, 7],
+    [1, 4, 3],
+    [1, 8, 5, 2],
+    [1, 10 ** 29],
+    [1, 2 ** 90 - 1],
+    [True, 1],
+    [1, True],
+    [1, False],
+    [1, 0, True, 0],
+    [1, "1"],
+    ["1", 0],
+    [1, None],
+    [1, [1]],
+    [1, b"1"],
+    [[1, 1]],
+    [1, Plain()],
+    [1, {1: 1}],
+    "11",
+    b"\x01\x01",
+    range(1, 2),
+    {0: 1, 1: 1},
+    {1, 0},
+    Room(1, [1]),
+    [1] + [0] * 25,
+    [1] * 26,
+    [1] * 32,
+    [1] + [0] * 24 + [1],
+    [1] * 200,
+    [1] + [0] * 23 + [2 ** 25 - 1],
 ]
