@@ -9,12 +9,17 @@ from owncontraries.words import weight
 MOST_LEAST_WORDS = 255
 
 
-def counted(room):
-    """The row of the room, its words counted one by one."""
-    numbers = [0] * (room.places + 1)
-    for word in sums_of(room.basis()):
+def counted_weights(places, words):
+    """How many of the words, each of so many places, have the weight 0, 1, .."""
+    numbers = [0] * (places + 1)
+    for word in words:
         numbers[weight(word)] += 1
     return numbers
+
+
+def counted(room):
+    """The row of the room, its words counted one by one."""
+    return counted_weights(room.places, sums_of(room.basis()))
 
 
 def row(room):
@@ -47,6 +52,12 @@ def sums_of_few(basis, most):
     return [word for word, many in sums]
 
 
+def words_of_weight(room, at):
+    """The sorted list of the room's words of this weight."""
+    # the highest place of each basis word in a sum is on in it, so a word is a sum of no more than its weight
+    return sorted([word for word in sums_of_few(room.basis(), at) if weight(word) == at])
+
+
 def least_words(room):
     """The sorted list of the room's words of the least weight; [] if 0 is its only word."""
     numbers = row(room)
@@ -55,5 +66,4 @@ def least_words(room):
         return []
     if numbers[lowest] > MOST_LEAST_WORDS:
         raise TooMany("words", MOST_LEAST_WORDS)
-    # the highest place of each basis word in a sum is on in it, so a word is a sum of no more than its weight
-    return sorted([word for word in sums_of_few(room.basis(), lowest) if weight(word) == lowest])
+    return words_of_weight(room, lowest)

@@ -1,7 +1,7 @@
 """Words: INTEGERS whose powers of 2 tell which places are on."""
 
 from owncontraries.basics import is_count, is_integer, is_list
-from owncontraries.errors import InvalidPlaces, InvalidSpots, InvalidWord
+from owncontraries.errors import InvalidPlaces, InvalidSpots, InvalidWord, NotEights
 
 MOST_PLACES = 24
 
@@ -10,6 +10,12 @@ def check_places(places):
     """Raise InvalidPlaces unless this is a number of places."""
     if not is_integer(places) or not 1 <= places <= MOST_PLACES:
         raise InvalidPlaces(places)
+
+
+def check_eights(places):
+    """Raise NotEights unless 8 divides a number of places."""
+    if places % 8 > 0:
+        raise NotEights()
 
 
 def is_word(places, value):

@@ -72,6 +72,34 @@ FUNCTIONS = {
         "fours_count": ["room"],
         "fours_fills": ["room"],
     },
+    "shadows": {
+        "shadow_word": ["room"],
+        "is_shadow_word": ["room", "value"],
+        "shadow_row": ["room"],
+        "beside_two": ["room"],
+    },
+    "sums": {
+        "sums": ["numbers"],
+        "row_of": ["places", "numbers"],
+        "fours_sums": ["numbers"],
+        "fours_row_of": ["places", "numbers"],
+    },
+    "limits": {
+        "shadow_of": ["places", "numbers"],
+        "limit": ["places"],
+        "fours_limit": ["places"],
+        "greatest": ["places"],
+        "fours_greatest": ["places"],
+        "can_be": ["numbers"],
+    },
+    "parts": {
+        "parts": ["room"],
+        "part_room": ["room", "spots"],
+    },
+    "kinds": {
+        "pairs": ["room"],
+        "fours_kinds": ["room"],
+    },
 }
 
 # the constructor's parameters, the properties, and the methods with their parameters

@@ -55,6 +55,7 @@ AT_LEAST_ZERO = [0, 1, 2, 3, 24, 25, 999999, 2 ** 24 - 1, 2 ** 24, 10 ** 29, 10 
 
 NO_COUNTS = NO_INTEGERS + BELOW_ZERO
 NO_PLACES = NO_COUNTS + [0, 25, 26, 999999, 10 ** 29]
+NO_EVENS = NO_PLACES + list(range(1, 28, 2))
 # none of 24 places, so none of fewer
 NO_WORDS = NO_COUNTS + [2 ** 24, 2 ** 24 + 1, 10 ** 29]
 
@@ -148,4 +149,37 @@ NO_ROWS = NO_NUMBERS + [value for value in LISTS if value != (1, 0)] + [
     [1] + [0] * 24 + [1],
     [1] * 200,
     [1] + [0] * 23 + [2 ** 25 - 1],
+]
+
+# lists of no INTEGERS, or of as many as no even number of places and 1
+NO_NUMBER_LISTS = NO_INTEGERS + BELOW_ZERO + AT_LEAST_ZERO + [
+    [1],
+    [1, 1],
+    (1, 1),
+    [1, 0, 1, 0],
+    [0] * 24,
+    [0] * 26,
+    [0] * 27,
+    (0,) * 27,
+    [0] * 200,
+    [True, 0, 1],
+    [1, 0, True],
+    [1, False, 1],
+    (1, 0, True),
+    [1, None, 1],
+    ["1", "0", "1"],
+    [1, 0, "1"],
+    [1, [0], 1],
+    [[1, 0, 1]],
+    [1, 0, Plain()],
+    [1, 0, b"1"],
+    "101",
+    b"\x01\x00\x01",
+    range(3),
+    {0: 1, 1: 0, 2: 1},
+    {1, 2, 3},
+    [0] * 8 + [True],
+    [0] * 24 + [False],
+    [None] * 9,
+    Room(2, [3]),
 ]
