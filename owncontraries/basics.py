@@ -15,3 +15,8 @@ def is_count(value):
 def is_list(value):
     """Whether the value may be passed where a list is wanted: a list or a tuple."""
     return isinstance(value, (list, tuple))
+
+
+def are_integers(value):
+    """Whether the value is a list of INTEGERS."""
+    return is_list(value) and all([is_integer(number) for number in value])

@@ -3,6 +3,7 @@
 from owncontraries.basics import is_list
 from owncontraries.contraries import is_own
 from owncontraries.fours import check_by_fours
+from owncontraries.mixes import lacking_base
 from owncontraries.neighbours import apart, check_own_two, over_half
 from owncontraries.rooms import Room
 
@@ -17,9 +18,8 @@ def distance(room, other):
 
 def step_towards(room, other):
     """A neighbour of an own room that has one dimension more in common with another own room, unlike it."""
-    lacking = [base for base in other.basis() if not room.has(base)]
     # all that both rooms have is even to the other one's word, so it stays
-    return over_half(room, lacking[0])
+    return over_half(room, lacking_base(room, other))
 
 
 def chain(room, other):

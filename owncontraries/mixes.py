@@ -2,7 +2,7 @@
 
 from owncontraries.errors import InvalidSequence, TooMany
 from owncontraries.rooms import Room, check_room, check_two, plain_basis
-from owncontraries.words import MOST_PLACES, are_spots, check_word, places_of, word_of
+from owncontraries.words import MOST_PLACES, check_word, is_sequence, places_of, word_of
 
 
 def lower_room(places, doubled):
@@ -29,6 +29,11 @@ def lies_in(room, other):
     """Whether all words of the first room are in the other one."""
     check_two(room, other)
     return all([other.has(word) for word in room.basis()])
+
+
+def lacking_base(room, other):
+    """The first word of the other room's plain basis that the room lacks; there is one."""
+    return [base for base in other.basis() if not room.has(base)][0]
 
 
 def beside(room, other):
@@ -64,6 +69,6 @@ def led(word, sequence):
 def exchanged(room, sequence):
     """The room of the words to which a sequence of the room leads its words."""
     check_room(room)
-    if not are_spots(room.places, sequence) or len(sequence) != room.places:
+    if not is_sequence(room.places, sequence):
         raise InvalidSequence(sequence)
     return Room(room.places, [led(base, sequence) for base in room.basis()])

@@ -3,7 +3,7 @@
 A list of numbers stands for a polynomial, its number at i going with y to the i.
 """
 
-from owncontraries.basics import is_integer, is_list
+from owncontraries.basics import are_integers
 from owncontraries.errors import InvalidNumbers, InvalidPlaces
 from owncontraries.words import MOST_PLACES, check_eights, check_places
 
@@ -24,15 +24,19 @@ def check_even_places(places):
 
 def check_numbers(numbers, many):
     """Raise InvalidNumbers unless this is a list of so many INTEGERS."""
-    if not is_list(numbers) or len(numbers) != many or not all([is_integer(number) for number in numbers]):
+    if not are_integers(numbers) or len(numbers) != many:
         raise InvalidNumbers(numbers)
+
+
+def are_all_numbers(value):
+    """Whether the value is a list of one INTEGER more than an even number of places."""
+    return are_integers(value) and len(value) % 2 == 1 and 3 <= len(value) <= MOST_PLACES + 1
 
 
 def check_all_numbers(numbers):
     """Raise InvalidNumbers unless this is a list of one INTEGER more than an even number of places."""
-    if not is_list(numbers) or len(numbers) % 2 == 0 or not 3 <= len(numbers) <= MOST_PLACES + 1:
+    if not are_all_numbers(numbers):
         raise InvalidNumbers(numbers)
-    check_numbers(numbers, len(numbers))
 
 
 def multiplied(polynomial, other):

@@ -6,9 +6,14 @@ from owncontraries.errors import InvalidPlaces, InvalidSpots, InvalidWord, NotEi
 MOST_PLACES = 24
 
 
+def is_places(value):
+    """Whether the value is a number of places."""
+    return is_integer(value) and 1 <= value <= MOST_PLACES
+
+
 def check_places(places):
     """Raise InvalidPlaces unless this is a number of places."""
-    if not is_integer(places) or not 1 <= places <= MOST_PLACES:
+    if not is_places(places):
         raise InvalidPlaces(places)
 
 
@@ -65,6 +70,11 @@ def are_spots(places, value):
     if not is_list(value) or not all([is_count(spot) and spot < places for spot in value]):
         return False
     return len(set(value)) == len(value)
+
+
+def is_sequence(places, value):
+    """Whether the value is a list of so many places, each once, in some sequence."""
+    return are_spots(places, value) and len(value) == places
 
 
 def word_of(spots):

@@ -100,6 +100,25 @@ FUNCTIONS = {
         "pairs": ["room"],
         "fours_kinds": ["room"],
     },
+    "alike": {
+        "alike": ["room", "other"],
+        "is_alike": ["room", "other", "value"],
+        "own_exchanges": ["room"],
+    },
+    "numbers": {
+        "own_number": ["places"],
+        "fours_number": ["places"],
+    },
+    "told": {
+        "told_kinds": ["places"],
+        "kind_of": ["room"],
+        "lacking": ["rooms"],
+    },
+    "halves": {
+        "vectors": ["room", "size"],
+        "vector_row": ["room", "most"],
+        "is_vector": ["room", "value"],
+    },
 }
 
 # the constructor's parameters, the properties, and the methods with their parameters
