@@ -4,6 +4,9 @@ import importlib
 import inspect
 import unittest
 
+from owncontraries.desk import Desk, Trial
+from owncontraries.rooms import Room
+
 FUNCTIONS = {
     "basics": {
         "is_integer": ["value"],
@@ -119,12 +122,47 @@ FUNCTIONS = {
         "vector_row": ["room", "most"],
         "is_vector": ["room", "value"],
     },
+    "texts": {
+        "sorts": [],
+        "is_of": ["sort", "value"],
+        "written": ["sort", "value"],
+    },
+    "readers": {
+        "read": ["text"],
+    },
+    "claims": {
+        "words": [],
+        "is_claim": ["value"],
+        "is_true": ["claim"],
+        "contrary_claim": ["claim"],
+        "paper_of": ["claim"],
+        "is_paper_of": ["claim", "value"],
+    },
+    "commands": {
+        "is_name": ["value"],
+        "is_command": ["value"],
+        "is_deed": ["value"],
+    },
+    "desk": {
+        "tried": ["desk", "action"],
+    },
 }
 
 # the constructor's parameters, the properties, and the methods with their parameters
 CLASSES = {
     "rooms": {
         "Room": (["places", "words"], ["places", "dimension"], {"basis": [], "has": ["word"], "words": []}),
+    },
+    "desk": {
+        "Desk": (
+            [],
+            ["names", "labels"],
+            {
+                "claim_of": ["label"], "do": ["command"], "__call__": ["command"], "attach": ["label", "paper"],
+                "fits": ["label"], "lines": [], "copy": [],
+            },
+        ),
+        "Trial": (["desk"], [], {"__enter__": []}),
     },
 }
 
@@ -171,10 +209,20 @@ class TestInterface(unittest.TestCase):
                     self.check_parameters(parameters(own[method])[1:], taken)
 
     def test_equality_and_repr_stand_in_the_class_itself(self):
-        from owncontraries.rooms import Room
-
         for method in ["__init__", "__eq__", "__repr__"]:
             self.assertIn(method, vars(Room))
+
+    def test_all_of_a_desk_stands_in_the_class_itself(self):
+        for method in ["__init__", "__len__", "__getitem__", "__contains__", "do_all", "attempt", "again"]:
+            self.assertIn(method, vars(Desk))
+        self.assertIsInstance(vars(Desk)["again"], classmethod)
+        self.check_parameters(parameters(Desk.again), ["lines"])
+        for method in ["do_all", "attempt"]:
+            found = parameters(vars(Desk)[method])[1:]
+            self.assertEqual([parameter.name for parameter in found], ["commands"])
+            self.assertEqual(found[0].kind, inspect.Parameter.VAR_POSITIONAL)
+        for method in ["__init__", "__enter__", "__exit__"]:
+            self.assertIn(method, vars(Trial))
 
 
 if __name__ == "__main__":

@@ -44,6 +44,11 @@ BARRED_NAMES = set(
     copyright credits delattr dir eval exec exit gc globals help id importlib license locals methodcaller os quit
     setattr vars sys""".split()
 )
+# methods of builtin values that no attribute of an own object is called like
+BARRED_ATTRIBUTES = set(
+    """items keys values pop update append clear extend insert remove reverse setdefault sort args encode decode hex
+    fromhex format as_integer_ratio bit_count conjugate from_bytes is_integer to_bytes""".split()
+)
 # doctest leaves a name "_" among the builtins
 PYTHONS_OWN = [name for name in vars(builtins) if not name.startswith("_")]
 STATEMENTS = (
@@ -238,6 +243,41 @@ class TestCode(unittest.TestCase):
                 sides = [node.left] + node.comparators
                 values = [side.value for side in sides if isinstance(side, ast.Constant)]
                 self.assertTrue([value for value in values if value is None or isinstance(value, bool)], name)
+
+    def classes(self):
+        return [node for name, node in walked(ast.ClassDef)]
+
+    def test_attributes_and_properties(self):
+        methods = {node.name: node for one in self.classes() for node in one.body if isinstance(node, ast.FunctionDef)}
+        properties = {name for name, node in methods.items() if node.decorator_list}
+        for one in self.classes():
+            own = {node.name for node in one.body if isinstance(node, ast.FunctionDef)}
+            given = {node.attr for node in ast.walk(one) if isinstance(node, ast.Attribute)
+                     and isinstance(node.ctx, ast.Store)}
+            self.assertEqual(given & (BARRED_ATTRIBUTES | properties | own), set(), one.name)
+
+    def test_classes_with_items_are_not_iterated_over(self):
+        for one in self.classes():
+            own = {node.name: node for node in one.body if isinstance(node, ast.FunctionDef)}
+            if "__getitem__" in own:
+                self.assertIsInstance(own["__iter__"].body[0], ast.Raise)
+                self.assertEqual(len(own["__iter__"].body), 1)
+            if "__len__" in own:
+                told = own["__len__"].body
+                self.assertEqual([isinstance(told[0], ast.Return), len(told), told[0].value.func.id], [True, 1, "len"])
+        for file in files():
+            self.assertIsNone(re.search(r"\(type\)|Meta|metaclass=", file.read_text()), file.name)
+
+    def test_an_exit_only_puts_back(self):
+        found = [node for name, node in walked(ast.FunctionDef) if node.name == "__exit__"]
+        self.assertTrue(found)
+        for node in found:
+            for row in node.body:
+                self.assertIsInstance(row, ast.Assign)
+                self.assertIsInstance(row.value, ast.Attribute)
+
+    def test_lists_instead_of_generators(self):
+        self.assertEqual(walked((ast.GeneratorExp, ast.Yield, ast.YieldFrom)), [])
 
     def test_each_class_and_function_tells_what_it_is(self):
         for name, node in walked((ast.FunctionDef, ast.ClassDef)):

@@ -77,7 +77,8 @@ class TestToldKinds(Checks):
     def test_the_rooms_are_own_and_of_the_name(self):
         for places in EVENS:
             for name, room, many in told_kinds(places):
-                self.assertEqual([room.places, is_own(room), kind_of(room), plain_name(room)], [places, True, name, name])
+                told = [room.places, is_own(room), kind_of(room), plain_name(room)]
+                self.assertEqual(told, [places, True, name, name])
 
     def test_the_numbers_of_exchanges_of_the_rooms(self):
         for places in EVENS[:6]:
