@@ -1,7 +1,6 @@
 """Pages: what a desk keeps and notes at one time, and how the states of labels change from one page to the next."""
 
 from owncontraries.claims import is_claim, is_true
-from owncontraries.commands import CLAIMS
 from owncontraries.rooms import Room
 
 
@@ -34,11 +33,6 @@ def thing_meant(thing):
     return thing[1] if isinstance(thing, tuple) else thing_told(thing)
 
 
-def is_kept(things, kind, name):
-    """Whether a thing of the kind is kept under the name."""
-    return name in things and thing_kind(things[name]) == kind
-
-
 def claim_meant(things, words):
     """The tuple of the words of a claim, with the kept things for their names."""
     return tuple([words[0]] + [thing_meant(things[name]) for name in words[1:]])
@@ -46,8 +40,9 @@ def claim_meant(things, words):
 
 def claim_now(things, words):
     """The claim that the words tell of what is kept; None if they tell none."""
-    if not all([is_kept(things, kind, name) for kind, name in zip(CLAIMS[words[0]], words[1:])]):
+    if not all([name in things for name in words[1:]]):
         return None
+    # of things of other kinds it is no claim
     claim = claim_meant(things, words)
     return claim if is_claim(claim) else None
 

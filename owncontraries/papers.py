@@ -12,7 +12,7 @@ from owncontraries.mixes import lacking_base, lies_in
 from owncontraries.neighbours import over_half
 from owncontraries.rooms import MOST_WORDS, Room, highest, is_word_of
 from owncontraries.sums import sums
-from owncontraries.words import are_even, are_spots, is_word, weight
+from owncontraries.words import are_even, are_spots, is_word
 
 
 def is_so(line, parts):
@@ -122,8 +122,9 @@ def all_sum_up(room, words, value):
 
 def leads_to(room, other, value):
     """Whether the value is a word whose neighbour of the one own room is the other one."""
-    if not is_word(room.places, value) or weight(value) % 2 == 1 or room.has(value):
+    if not is_word(room.places, value) or room.has(value):
         return False
+    # a word of odd weight leads to no own room, as it is odd to itself
     return over_half(room, value) == other
 
 

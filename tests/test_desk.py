@@ -128,6 +128,15 @@ class TestItems(DeskChecks):
         self.assertEqual(desk.labels, ["c", "d"])
         self.assertEqual(len(desk.lines()), 10)
 
+    def test_sorted_whatever_the_sequence(self):
+        desk = Desk()
+        for name in ["z", "a9", "b", "a10", "a"]:
+            desk.do_all("room " + name + " 11", "claim " + name + " own " + name)
+        self.assertEqual(desk.names, ["a", "a10", "a9", "b", "z"])
+        self.assertEqual(desk.labels, ["a", "a10", "a9", "b", "z"])
+        self.assertEqual(desk("names"), "a a10 a9 b z")
+        self.assertEqual(desk("states"), "a true, a10 true, a9 true, b true, z true")
+
     def test_names_are_not_set(self):
         desk = filled_desk()
         for name in ["names", "labels"]:
