@@ -30,9 +30,9 @@ def with_place(keys, words, place):
 
 
 def marks_of(places, words, keys):
-    """For each of so many places a number that tells in which of the words, sorted by their keys, it is on."""
-    ranked = [word for key, word in sorted(zip(keys, words))]
-    return [sum([((word >> place) & 1) << rank for rank, word in enumerate(ranked)]) for place in range(places)]
+    """For each of so many places its mark: the sorted keys, a tuple, of the words in which it is on."""
+    ranked = sorted(zip(keys, words))
+    return [tuple([key for key, word in ranked if (word >> place) & 1]) for place in range(places)]
 
 
 def lots_of(marks):
@@ -44,7 +44,7 @@ def lots_of(marks):
 
 
 class Sketch:
-    """All words of a thin room, their keys without a place, by one top place, two .. and all, and the places' marks.
+    """All words of a thin room, and their keys and the places' marks, without a top place, by one, by two .. and all.
 
     The top places are the highest ones of the plain basis: by all of them each word has a key of its own.
     """
@@ -52,28 +52,34 @@ class Sketch:
     def __init__(self, room):
         self.tops = [base.bit_length() - 1 for base in room.basis()]
         self.told = sums_of(room.basis())
+        # no exchange changes a weight
         self.steps = [[weight(word) for word in self.told]]
         for place in self.tops:
             self.steps.append(with_place(self.steps[-1], self.told, place))
-        self.marks = marks_of(room.places, self.told, self.steps[-1])
-        # places with one mark are on in the same words, so each of them serves as well as any other
-        self.lots = lots_of(self.marks)
+        self.marks = [marks_of(room.places, self.told, keys) for keys in self.steps]
+        # places with one mark at last are on in the same words, so each of them serves as well as any other
+        self.lots = lots_of(self.marks[-1])
 
 
 def led_on(sketch, other, step, keys):
-    """Keys of the other one's words, by places to which a sequence leads all top places; None if there are none.
+    """The other one's marks by keys to which a sequence leads those of the last step; None if there are none.
 
-    The keys that are passed stand for the top places ahead of the step.
+    The keys that are passed stand for those of the step.
     """
+    # equal marks have equal keys, but the keys are told sooner
     if sorted(keys) != sorted(sketch.steps[step]):
         return None
+    marks = marks_of(len(sketch.marks[step]), other.told, keys)
+    if sorted(marks) != sorted(sketch.marks[step]):
+        return None
     if step == len(sketch.tops):
-        marks = marks_of(len(sketch.marks), other.told, keys)
-        return keys if sorted(marks) == sorted(sketch.marks) else None
+        return marks
+    wanted = sketch.marks[step][sketch.tops[step]]
     for lot in other.lots:
-        found = led_on(sketch, other, step + 1, with_place(keys, other.told, lot[0]))
-        if found is not None:
-            return found
+        if marks[lot[0]] == wanted:
+            found = led_on(sketch, other, step + 1, with_place(keys, other.told, lot[0]))
+            if found is not None:
+                return found
     return None
 
 
@@ -81,10 +87,8 @@ def matched(marks, other_marks):
     """A sequence that leads each place to one with the same mark among the other ones."""
     starts = sorted([(mark, place) for place, mark in enumerate(marks)])
     ends = sorted([(mark, place) for place, mark in enumerate(other_marks)])
-    sequence = [0] * len(marks)
-    for start, end in zip(starts, ends):
-        sequence[start[1]] = end[1]
-    return sequence
+    led = {start[1]: end[1] for start, end in zip(starts, ends)}
+    return [led[place] for place in range(len(marks))]
 
 
 def alike(room, other):
@@ -94,10 +98,10 @@ def alike(room, other):
     if room.dimension != other.dimension:
         return None
     sketch, other_sketch = Sketch(thinner(room)), Sketch(thinner(other))
-    keys = led_on(sketch, other_sketch, 0, other_sketch.steps[0])
-    if keys is None:
+    marks = led_on(sketch, other_sketch, 0, other_sketch.steps[0])
+    if marks is None:
         return None
-    return matched(sketch.marks, marks_of(room.places, other_sketch.told, keys))
+    return matched(sketch.marks[-1], marks)
 
 
 def is_alike(room, other, value):
@@ -108,10 +112,10 @@ def is_alike(room, other, value):
 
 def led_places(sketch, step):
     """How many places a top place is led to by those own exchanges that leave the top places ahead of it."""
-    keys = sketch.steps[step]
     many = 0
     for lot in sketch.lots:
-        if led_on(sketch, sketch, step + 1, with_place(keys, sketch.told, lot[0])) is not None:
+        keys = with_place(sketch.steps[step], sketch.told, lot[0])
+        if led_on(sketch, sketch, step + 1, keys) is not None:
             many += len(lot)
     return many
 

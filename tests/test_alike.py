@@ -40,16 +40,20 @@ def moved(chance, room):
     return exchanged(room, chance.sample(range(room.places), room.places))
 
 
-def profile(room):
-    """For each place the weights of the words that are on there, sorted: alike rooms have the same."""
+def profile(room, many=1):
+    """For each so many places the weights of the words that are on there, sorted: alike rooms have the same."""
     words = all_sums(room.basis())
-    return sorted(sorted(ons(word) for word in words if word & unit) for unit in units(room.places))
+    lots = [sum(lot) for lot in itertools.combinations(units(room.places), many)]
+    return sorted(sorted(ons(word) for word in words if word & lot == lot) for lot in lots)
 
 
 def unlike_pairs():
     """Pairs of rooms of some places with equal rows of which no sequence leads the one to the other one."""
     # three pairs that do not meet, or three that meet two by two
     yield Room(6, [3, 12, 48]), Room(6, [3, 5, 57])
+    # each place of them is like any other
+    yield Room(12, [2121, 1061, 591, 303, 238, 29]), Room(12, [2067, 1167, 657, 414, 85, 57])
+    yield Room(12, [2121, 1061, 591, 303, 238, 29]), Room(12, [2095, 1085, 531, 282, 150, 114])
     chance = random.Random(130)
     for places, dimensions in [(7, [3, 4]), (8, [3, 4, 5]), (10, [4, 5]), (12, [4, 5, 6, 7])]:
         groups = {}
@@ -144,6 +148,7 @@ class TestAlike(Checks):
         self.assertNotIn(word_set(other), set(images(room)))
         for room, other in found:
             self.assertEqual(row(room), row(other))
+            self.assertNotEqual([profile(room), profile(room, 2)], [profile(other), profile(other, 2)])
             self.assertIsNone(self.asked(alike, room=room, other=other))
             self.assertIsNone(alike(contrary(room), contrary(other)))
             # nor do places with the same rooms on them
